@@ -1,0 +1,1 @@
+"""Heldcalls: can threads deadlock that call hooks while they hold locks."""

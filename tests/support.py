@@ -1,0 +1,76 @@
+"""What several test files need: reading errors, and texts of random libraries."""
+
+import random
+
+from heldcalls.errors import LineError
+from heldcalls.library import Library
+
+
+def error_of(text):
+    """Returns the pair (name of the class, number) of the error of a text, or None if it has none."""
+    try:
+        Library.read(text)
+    except LineError as error:
+        assert type(error.number) is int
+        return type(error).__name__, error.number
+    return None
+
+
+def text_of(*lines):
+    return "\n".join(lines)
+
+
+class Maker:
+    """Makes the text of a random library that keeps to the rules."""
+
+    def __init__(self, seed, *, locks=5, hooks=4, routines=5, statements=10):
+        self.chance = random.Random(seed)
+        names = self.chance.sample(["a", "b", "end", "lock", "entry", "maybe", "go", "run", "stopping",
+                                    "x", "y", "hook", "zz", "routine", "put", "get"], 14)
+        self.locks = names[:self.chance.randint(0, locks)]
+        self.hooks = names[5:5 + self.chance.randint(0, hooks)]
+        self.routines = names[9:9 + self.chance.randint(0, routines)]
+        self.statements = statements
+        self.lengths = {}
+
+    def text(self):
+        lines = [f"lock {lock}" for lock in self.locks]
+        for hook in self.hooks:
+            word = self.chance.choice(["hook", "hook", "deferred"])
+            lines.append(" ".join([word, hook, *self.some(self.routines)]))
+        for routine in self.routines:
+            lines.extend([f"routine {routine}", *self.body(routine), "end"])
+        lines.extend(f"entry {routine}" for routine in self.some(self.routines))
+        return "\n".join(lines)
+
+    def some(self, names):
+        return self.chance.sample(names, self.chance.randint(0, len(names)))
+
+    def body(self, routine):
+        lines = []
+        held = []
+        length = 1
+        room = self.chance.randint(0, self.statements)
+        while len(lines) + len(held) < room:
+            word = self.chance.choice(["acquire", "acquire", "release", "call", "maybe", "invoke", "invoke"])
+            if word == "release" and held:
+                lines.append(f"release {held.pop()}")
+            elif word == "acquire" and self.locks and len(lines) + len(held) + 2 <= room:
+                held.append(self.chance.choice(self.locks))
+                lines.append(f"acquire {held[-1]}")
+            elif word == "maybe":
+                lines.append(f"maybe {self.chance.choice(self.routines)}")
+            elif word == "invoke" and self.hooks:
+                lines.append(f"invoke {self.chance.choice(self.hooks)}")
+            elif word == "call" and self.lengths:
+                called = self.chance.choice(list(self.lengths))
+                if length + self.lengths[called] + 2 * room < 60:
+                    length += self.lengths[called]
+                    lines.append(f"call {called}")
+        lines.extend(f"release {lock}" for lock in reversed(held))
+        self.lengths[routine] = length + len(lines)
+        return lines
+
+
+def random_text(seed, **most):
+    return Maker(seed, **most).text()
