@@ -78,32 +78,36 @@ def next_extras(library, hook, lengths, extras):
     """Returns the extras of the routines if those that they call have the given extras."""
     deeper = {}
     for routine in library.routines:
-        least = least_extra(library, hook, library.statements(routine), lengths, extras)
-        if least is not None:
-            deeper[routine] = least
+        choice = least_choice(library, hook, library.statements(routine), lengths, extras)
+        if choice is not None:
+            deeper[routine] = choice[0]
     return deeper
 
 
-def least_extra(library, hook, statements, lengths, extras):
-    """Returns the least of the numbers of these statements for the hook (point 12), or None if there is none."""
-    numbers = [
-        number
-        for statement in statements
-        for number in extra_numbers(library, hook, statement, lengths, extras)
+def least_choice(library, hook, statements, lengths, extras):
+    """Returns the least of the numbers of these statements for the hook (point 12), and how it comes about.
+
+    This is a triple (number, index of the statement, routine that is called for it), with "" if the statement
+    invokes the hook itself; it is None if there is no number. Of several the first statement is taken.
+    """
+    choices = [
+        (number, at, callee)
+        for at, statement in enumerate(statements)
+        for number, callee in extra_choices(library, hook, statement, lengths, extras)
     ]
-    return min(numbers, default=None)
+    return min(choices, default=None)
 
 
-def extra_numbers(library, hook, statement, lengths, extras):
-    """Returns the list of the numbers of this statement for the hook (point 12)."""
+def extra_choices(library, hook, statement, lengths, extras):
+    """Returns the list of the pairs (number for the hook, routine that is called for it) of this statement."""
     word, name = statement
     if statement == ("invoke", hook):
-        return [0]
+        return [(0, "")]
     if word == "call" and name in extras:
-        return [extras[name]]
+        return [(extras[name], name)]
     called = ()
     if word == "maybe":
         called = (name,)
     elif word == "invoke" and not library.is_deferred(name):
         called = library.callbacks(name)
-    return [lengths[routine] + extras[routine] for routine in called if routine in extras]
+    return [(lengths[routine] + extras[routine], routine) for routine in called if routine in extras]

@@ -30,6 +30,7 @@ class Maker:
         self.locks = names[:self.chance.randint(0, locks)]
         self.hooks = names[5:5 + self.chance.randint(0, hooks)]
         self.routines = names[9:9 + self.chance.randint(0, routines)]
+        self.least = 0
         self.statements = statements
         self.lengths = {}
 
@@ -50,7 +51,7 @@ class Maker:
         lines = []
         held = []
         length = 1
-        room = self.chance.randint(0, self.statements)
+        room = self.chance.randint(self.least, self.statements)
         while len(lines) + len(held) < room:
             word = self.chance.choice(["acquire", "acquire", "release", "call", "maybe", "invoke", "invoke"])
             if word == "release" and held:
@@ -74,3 +75,64 @@ class Maker:
 
 def random_text(seed, **most):
     return Maker(seed, **most).text()
+
+
+class DenseMaker(Maker):
+    """Makes a small library with entries, in which hooks are often deferred and locks are often held."""
+
+    def __init__(self, seed):
+        super().__init__(seed)
+        self.locks = self.chance.sample(["a", "b", "lock"], self.chance.randint(1, 3))
+        self.hooks = ["h", "i", "end"][:self.chance.randint(1, 3)]
+        self.routines = ["p", "q", "r", "call"][:self.chance.randint(1, 4)]
+        self.least = 3
+        self.statements = 7
+
+    def text(self):
+        lines = [f"lock {lock}" for lock in self.locks]
+        for hook in self.hooks:
+            word = self.chance.choice(["hook", "deferred", "deferred"])
+            lines.append(" ".join([word, hook, *self.some(self.routines)]))
+        for routine in self.routines:
+            lines.extend([f"routine {routine}", *self.body(routine), "end"])
+        entries = self.chance.sample(self.routines, self.chance.randint(1, min(2, len(self.routines))))
+        lines.extend(f"entry {routine}" for routine in entries)
+        return "\n".join(lines)
+
+
+def dense_text(seed):
+    return DenseMaker(seed).text()
+
+
+class FullMaker(Maker):
+    """Makes a library at all its bounds."""
+
+    def __init__(self, seed):
+        super().__init__(seed)
+        self.locks = list("abcde")
+        self.hooks = list("hijk")
+        self.routines = list("pqrst")
+        self.least = 10
+
+    def text(self):
+        lines = [f"lock {lock}" for lock in self.locks]
+        for hook in self.hooks:
+            word = self.chance.choice(["hook", "deferred"])
+            lines.append(" ".join([word, hook, *self.chance.sample(self.routines, 5)]))
+        for routine in self.routines:
+            lines.extend([f"routine {routine}", *self.body(routine), "end"])
+        return "\n".join([*lines, *(f"entry {routine}" for routine in self.routines)])
+
+
+def full_text(seed):
+    return FullMaker(seed).text()
+
+
+def raised(kind, function, *given, **named):
+    """Returns the fields of the error of exactly this class that the call raises."""
+    try:
+        function(*given, **named)
+    except kind as error:
+        assert type(error) is kind, error
+        return vars(error)
+    raise AssertionError(f"no {kind.__name__}")

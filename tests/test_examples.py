@@ -18,8 +18,9 @@ class TestExamples(unittest.TestCase):
                     self.assertTrue(fits(found, expected), f"{found!r} is not {expected}")
 
     def test_number_of_examples(self):
-        counts = [len(examples_of(module)) for module in ("reading", "library", "layout")]
-        self.assertEqual(counts, [1, 7, 3])
+        counts = {path.stem: len(examples_of(path.stem)) for path in FOLDER.glob("*.txt")}
+        self.assertEqual(counts, {"reading": 1, "library": 7, "layout": 3, "threads": 3, "contexts": 1, "tables": 2,
+                                  "runs": 2})
 
     @unittest.skipUnless(DOC.is_file(), "the document is not here")
     def test_the_examples_stand_so_in_the_document(self):

@@ -24,6 +24,10 @@ FUNCTIONS = {
         "call_length": "(library, routine)",
         "call_length_with": "(library, routine, hook)",
     },
+    "threads": {"play": "(library, run)", "shortest_run": "(library, entry)"},
+    "contexts": {"contexts": "(library)", "held_when_invoked": "(library, hook)"},
+    "tables": {"table_of": "(library)"},
+    "runs": {"run_to_context": "(library, routine, held)", "run_to_request": "(library, request)"},
 }
 METHODS = {
     ("library", "Library"): {
@@ -36,9 +40,30 @@ METHODS = {
         "keeping": "(self, locks)",
         "__add__": "(self, other)",
     },
+    ("threads", "Thread"): {
+        "__init__": "(self, library, entry)",
+        "moves": "(self)",
+        "step": "(self, move)",
+        "duplicate": "(self)",
+    },
+    ("tables", "Table"): {
+        "__iter__": "(self)",
+        "__len__": "(self)",
+        "__contains__": "(self, x)",
+        "__getitem__": "(self, at)",
+        "__or__": "(self, other)",
+        "self_requests": "(self)",
+    },
 }
-PROPERTIES = {("library", "Library"): ("locks", "hooks", "routines", "entries")}
-CLASSES = {"errors": ERRORS, "reading": ("Bounds",), "library": ("Library",), "layout": ()}
+PROPERTIES = {
+    ("library", "Library"): ("locks", "hooks", "routines", "entries"),
+    ("threads", "Thread"): ("frames", "held", "held_set", "lock_stack", "pending", "length", "wants", "ended", "run"),
+    ("tables", "Table"): ("locks",),
+}
+CLASSES = {
+    "errors": ERRORS, "reading": ("Bounds",), "library": ("Library",), "layout": (), "threads": ("Thread",),
+    "contexts": (), "tables": ("Table",), "runs": (),
+}
 
 
 def module(name):
@@ -55,6 +80,7 @@ class TestInterface(unittest.TestCase):
     def test_files_that_define_the_names(self):
         for name, classes in CLASSES.items():
             listed = {*classes, *FUNCTIONS.get(name, {})}
+            self.assertTrue(listed)
             self.assertLessEqual(listed, set(defined_in(name)), name)
 
     def test_functions(self):

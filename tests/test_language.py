@@ -19,6 +19,11 @@ BUILTINS = set("""
 """.split())
 DOUBLE = {"init", "eq", "repr", "str", "len", "enter", "exit", "call", "iter", "add", "bool", "contains", "getitem",
           "or", "lt", "le", "gt", "ge", "ne"}
+BUILTIN_METHODS = set("""
+    append clear copy count endswith extend find get index insert isalpha isdigit items join keys ljust lower lstrip
+    partition pop remove replace reverse rjust rpartition rsplit rstrip setdefault split splitlines startswith strip
+    update upper values zfill
+""".split())
 LIBRARY = {"heapq", "math", "itertools", "collections"}
 DECORATORS = re.compile(r"property|classmethod|staticmethod|\w+\.setter")
 WORDS = re.compile(r"\b(type|typing|enum|Enum|IntEnum|Flag|Generic|Protocol|ABC|NamedTuple|namedtuple|abstractmethod"
@@ -38,6 +43,10 @@ def files():
 def trees():
     for name, text in files():
         yield name, ast.parse(text)
+
+
+def is_property(node):
+    return any(isinstance(decorator, ast.Name) and decorator.id == "property" for decorator in node.decorator_list)
 
 
 def docstrings(tree):
@@ -128,6 +137,47 @@ class TestLanguage(unittest.TestCase):
                 if isinstance(node, (ast.Name, ast.Attribute)):
                     word = node.id if isinstance(node, ast.Name) else node.attr
                     self.assertNotRegex(word, rf"^{WORDS.pattern}$", (name, node.lineno))
+
+    def test_properties_share_their_names_with_no_method_and_no_attribute(self):
+        properties, methods, attributes = set(), set(), set()
+        for _, tree in trees():
+            for owner in ast.walk(tree):
+                for node in owner.body if isinstance(owner, ast.ClassDef) else []:
+                    if isinstance(node, ast.FunctionDef):
+                        (properties if is_property(node) else methods).add(node.name)
+                if isinstance(owner, ast.Attribute) and isinstance(owner.ctx, ast.Store):
+                    attributes.add(owner.attr)
+        self.assertIn("locks", properties)
+        self.assertEqual((properties & methods, properties & attributes), (set(), set()))
+
+    def test_methods_of_builtin_values(self):
+        own = {node.name for _, tree in trees() for node in ast.walk(tree) if isinstance(node, ast.FunctionDef)}
+        for name, tree in trees():
+            for node in ast.walk(tree):
+                if isinstance(node, ast.Call) and isinstance(node.func, ast.Attribute):
+                    self.assertIn(node.func.attr, BUILTIN_METHODS | own, (name, node.lineno))
+
+    def test_no_generator_expressions_and_no_sum_in_place_in_operators(self):
+        for name, tree in trees():
+            for node in ast.walk(tree):
+                self.assertNotIsInstance(node, ast.GeneratorExp, name)
+                if isinstance(node, ast.FunctionDef) and (is_property(node) or node.name.startswith("__")):
+                    for inner in ast.walk(node):
+                        self.assertNotIsInstance(inner, ast.AugAssign, (name, node.name))
+
+    def test_generators_share_their_names_with_nothing(self):
+        generators, others = [], []
+        for _, tree in trees():
+            for node in ast.walk(tree):
+                if isinstance(node, ast.FunctionDef):
+                    yields = any(isinstance(inner, (ast.Yield, ast.YieldFrom)) for inner in ast.walk(node))
+                    (generators if yields else others).append(node.name)
+                if isinstance(node, ast.arg):
+                    others.append(node.arg)
+                if isinstance(node, ast.Name) and isinstance(node.ctx, ast.Store):
+                    others.append(node.id)
+        self.assertEqual(len(generators), len(set(generators)))
+        self.assertEqual(set(generators) & {*others, *BUILTIN_METHODS}, set())
 
     def test_one_binding_for_each_name_of_a_file(self):
         for name, tree in trees():
