@@ -11,6 +11,11 @@ def positions(locks, held):
     return tuple([locks.index(lock) for lock in held])
 
 
+def are_apart(first, second):
+    """Tells whether no lock is in both held sets."""
+    return not any([lock in second for lock in first])
+
+
 def in_order(locks, pairs):
     """Returns the list of the pairs (held set, lock) in the order of requests."""
     return sorted(pairs, key=lambda pair: (positions(locks, pair[0]), locks.index(pair[1])))

@@ -26,6 +26,11 @@ def wanting(library):
     return found
 
 
+def proper_requests(table):
+    """Returns the list of the proper requests of the table, in order (point 25)."""
+    return [(held, wanted) for held, wanted in table if held and wanted not in held]
+
+
 class Table:
     """The requests of one or several libraries with their lengths; it never changes."""
 

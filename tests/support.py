@@ -1,9 +1,10 @@
-"""What several test files need: reading errors, and texts of random libraries."""
+"""What several test files need: errors with their fields, texts of random libraries, and random tables."""
 
 import random
 
 from heldcalls.errors import LineError
 from heldcalls.library import Library
+from heldcalls.tables import table_of
 
 
 def error_of(text):
@@ -136,3 +137,21 @@ def raised(kind, function, *given, **named):
         assert type(error) is kind, error
         return vars(error)
     raise AssertionError(f"no {kind.__name__}")
+
+
+def random_table(seed, *, locks="abcde", libraries=6):
+    """Returns a table joined from small libraries whose routines acquire some locks one after another."""
+    chance = random.Random(seed)
+    table = table_of(Library.read(text_of(*[f"lock {lock}" for lock in locks])))
+    for _ in range(chance.randint(0, libraries)):
+        nest = chance.sample(locks, chance.randint(1, min(4, len(locks))))
+        if chance.random() < 0.3:
+            nest[-1] = chance.choice(nest)
+        body = []
+        for lock in nest:
+            body += ["invoke h"] * chance.randint(0, 1) * (len(nest) < 4) + [f"acquire {lock}"]
+        body += [f"release {lock}" for lock in reversed(nest)]
+        order = chance.sample(locks, len(locks))
+        table = table | table_of(Library.read(text_of(
+            *[f"lock {lock}" for lock in order], "hook h", "routine r", *body, "end", "entry r")))
+    return table

@@ -28,6 +28,9 @@ FUNCTIONS = {
     "contexts": {"contexts": "(library)", "held_when_invoked": "(library, hook)"},
     "tables": {"table_of": "(library)"},
     "runs": {"run_to_context": "(library, routine, held)", "run_to_request": "(library, request)"},
+    "cycles": {"request_cycles": "(table, *, threads)", "least_cycle": "(table)"},
+    "chains": {"chains": "(table)", "closes": "(chain)"},
+    "lockcycles": {"shortest_lock_cycle": "(locks, pairs)"},
 }
 METHODS = {
     ("library", "Library"): {
@@ -54,15 +57,30 @@ METHODS = {
         "__or__": "(self, other)",
         "self_requests": "(self)",
     },
+    ("machine", "Machine"): {
+        "__init__": "(self, library, *, reentrant=True)",
+        "__len__": "(self)",
+        "start": "(self, entry)",
+        "step": "(self, thread, move)",
+        "moves": "(self, thread)",
+        "state_of": "(self, thread)",
+        "holder": "(self, lock)",
+        "waits_for": "(self, thread)",
+        "deadlock": "(self)",
+        "attempt": "(self, steps)",
+        "duplicate": "(self)",
+    },
 }
 PROPERTIES = {
     ("library", "Library"): ("locks", "hooks", "routines", "entries"),
     ("threads", "Thread"): ("frames", "held", "held_set", "lock_stack", "pending", "length", "wants", "ended", "run"),
     ("tables", "Table"): ("locks",),
+    ("machine", "Machine"): ("steps",),
 }
 CLASSES = {
     "errors": ERRORS, "reading": ("Bounds",), "library": ("Library",), "layout": (), "threads": ("Thread",),
-    "contexts": (), "tables": ("Table",), "runs": (),
+    "contexts": (), "tables": ("Table",), "runs": (), "cycles": (), "chains": (), "lockcycles": (),
+    "machine": ("Machine",),
 }
 
 
