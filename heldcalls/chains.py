@@ -26,8 +26,7 @@ def closes(chain):
 def lengthened(locks, chain, proper):
     """Returns the list of the chains that consist of this chain and one more of the proper requests."""
     union, wanted = chain
-    if closes(chain):
-        return []
+    # If the chain closes, no held set with the wanted lock is apart from the union.
     return [
         (ordered(locks, (*union, *held)), lock)
         for held, lock in proper

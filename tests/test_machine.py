@@ -102,7 +102,11 @@ class TestWithoutThreads(unittest.TestCase):
     def test_reentrant_is_given_by_its_name_or_not_at_all(self):
         with self.assertRaises(TypeError):
             Machine(Library.read(""), True)
-        self.assertIs(type(Machine(Library.read(""))), Machine)
+        for machine, blocker in ((Machine(Library.read(CROSS)), None),
+                                 (Machine(Library.read(CROSS), reentrant=True), None),
+                                 (Machine(Library.read(CROSS), reentrant=False), 0)):
+            machine.attempt([(0, ("start", "twice")), (0, ("acquire", "a"))])
+            self.assertEqual(machine.waits_for(0), blocker)
 
     def test_no_thread_has_a_number(self):
         machine = Machine(Library.read(CROSS))
