@@ -289,7 +289,7 @@ class TestDeadlock(unittest.TestCase):
             self.assertEqual(self.deadlock_of(entries), expected)
 
     def test_threads_that_only_wait_for_a_deadlock_are_not_in_it(self):
-        self.assertEqual(self.deadlock_of("pprqr"), (0, 3, 2)[:1] + (3, 2))
+        self.assertEqual(self.deadlock_of("pprqr"), (0, 3, 2))
         self.assertEqual(self.deadlock_of("stst"), (0, 1))
         machine = machine_after([(0, ("start", "left")), (1, ("start", "left")), (2, ("start", "right")),
                                  (1, ("acquire", "a")), (2, ("acquire", "b"))])
@@ -315,7 +315,6 @@ class TestAttempt(unittest.TestCase):
             self.assertIsNone(machine.attempt(steps))
             self.assertEqual(told(machine), told(machine_after(BEGIN)))
             self.assertEqual([machine.holder("a"), machine.holder("b")], [0, 1])
-        self.assertEqual(BEGIN, list(tuple(BEGIN)))
 
     def test_no_steps(self):
         machine = machine_after(BEGIN)
