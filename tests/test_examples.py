@@ -20,7 +20,9 @@ class TestExamples(unittest.TestCase):
     def test_number_of_examples(self):
         counts = {path.stem: len(examples_of(path.stem)) for path in FOLDER.glob("*.txt")}
         self.assertEqual(counts, {"reading": 1, "library": 7, "layout": 3, "threads": 3, "contexts": 1, "tables": 2,
-                                  "runs": 2, "cycles": 1, "chains": 1, "lockcycles": 1, "machine": 2})
+                                  "runs": 2, "cycles": 1, "chains": 1, "lockcycles": 1, "machine": 2,
+                                  "finishing": 1, "holds": 1, "interleaving": 4, "certificates": 1, "verdicts": 4,
+                                  "orders": 2, "remedies": 2, "report": 1})
 
     @unittest.skipUnless(DOC.is_file(), "the document is not here")
     def test_the_examples_stand_so_in_the_document(self):

@@ -31,6 +31,25 @@ FUNCTIONS = {
     "cycles": {"request_cycles": "(table, *, threads)", "least_cycle": "(table)"},
     "chains": {"chains": "(table)", "closes": "(chain)"},
     "lockcycles": {"shortest_lock_cycle": "(locks, pairs)"},
+    "finishing": {"finish": "(machine)"},
+    "holds": {
+        "final_acquisitions": "(library, run)",
+        "acquired_since": "(library, run)",
+        "lock_base": "(library, run, lock)",
+    },
+    "interleaving": {
+        "interleave": "(library, runs)",
+        "is_run_cycle": "(library, runs)",
+        "force_deadlock": "(library, runs)",
+    },
+    "certificates": {"gaps": "(library, contexts, chains, *, reentrant=True)"},
+    "verdicts": {"analyze": "(library, *, reentrant=True)"},
+    "orders": {"lock_order": "(table)"},
+    "remedies": {
+        "smallest_deferrals": "(library, *, reentrant=True)",
+        "widest_callbacks": "(library, hook, *, reentrant=True)",
+    },
+    "report": {"report": "(library, *, reentrant=True)"},
 }
 METHODS = {
     ("library", "Library"): {
@@ -70,6 +89,9 @@ METHODS = {
         "attempt": "(self, steps)",
         "duplicate": "(self)",
     },
+    ("verdicts", "Verdict"): {"lines": "(self)"},
+    ("verdicts", "Unsafe"): {"lines": "(self)", "called_back": "(self)", "__bool__": "(self)"},
+    ("verdicts", "Safe"): {"lines": "(self)", "__bool__": "(self)"},
 }
 PROPERTIES = {
     ("library", "Library"): ("locks", "hooks", "routines", "entries"),
@@ -80,7 +102,8 @@ PROPERTIES = {
 CLASSES = {
     "errors": ERRORS, "reading": ("Bounds",), "library": ("Library",), "layout": (), "threads": ("Thread",),
     "contexts": (), "tables": ("Table",), "runs": (), "cycles": (), "chains": (), "lockcycles": (),
-    "machine": ("Machine",),
+    "machine": ("Machine",), "finishing": (), "holds": (), "interleaving": (), "certificates": (),
+    "verdicts": ("Verdict", "Unsafe", "Safe"), "orders": (), "remedies": (), "report": (),
 }
 
 
@@ -117,6 +140,10 @@ class TestInterface(unittest.TestCase):
             body = vars(getattr(module(name), owner))
             for word in properties:
                 self.assertIsInstance(body[word], property)
+
+    def test_verdicts(self):
+        verdicts = module("verdicts")
+        self.assertEqual([verdicts.Unsafe.__bases__, verdicts.Safe.__bases__], [(verdicts.Verdict,)] * 2)
 
     def test_read_is_a_class_method(self):
         read = vars(module("library").Library)["read"]
