@@ -155,3 +155,34 @@ def random_table(seed, *, locks="abcde", libraries=6):
         table = table | table_of(Library.read(text_of(
             *[f"lock {lock}" for lock in order], "hook h", "routine r", *body, "end", "entry r")))
     return table
+
+
+class TinyMaker(DenseMaker):
+    """Makes a library so small that two threads can be searched through; it is unsafe more often than others."""
+
+    def __init__(self, seed):
+        super().__init__(seed)
+        self.locks = ["b", "a", "c"][:self.chance.choice([2, 2, 3])]
+        self.hooks = ["h", "i"][:self.chance.randint(1, 2)]
+        self.routines = ["p", "q", "r"][:self.chance.randint(2, 3)]
+
+    def body(self, routine):
+        inner = [self.chance.choice(self.locks)]
+        if self.chance.random() < 0.6:
+            inner = self.chance.sample(self.locks, 2)
+        lines = []
+        for lock in inner:
+            lines += [*self.between(), f"acquire {lock}"]
+        for lock in reversed(inner):
+            lines += [*self.between(), f"release {lock}"]
+        return lines + self.between()
+
+    def between(self):
+        if self.chance.random() < 0.7:
+            return []
+        return [self.chance.choice([*[f"invoke {hook}" for hook in self.hooks] * 2,
+                                    f"maybe {self.chance.choice(self.routines)}"])]
+
+
+def tiny_text(seed):
+    return TinyMaker(seed).text()
